@@ -60,6 +60,20 @@ func eachString(alphabet string, length int, f func(s string)) {
 	}
 }
 
+// eachStringNear calls f for the strings that have any byte inserted or replaced in any place, or one left out, and for all beginnings and ends.
+func eachStringNear(s string, f func(s string)) {
+	for place := range len(s) + 1 {
+		before, after, next := s[:place], s[place:], s[min(place+1, len(s)):]
+		for _, c := range []byte(allBytes()) {
+			f(before + string([]byte{c}) + after)
+			f(before + string([]byte{c}) + next)
+		}
+		f(before)
+		f(after)
+		f(before + next)
+	}
+}
+
 func allBytes() string {
 	b := make([]byte, 256)
 	for i := range b {

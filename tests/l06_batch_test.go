@@ -882,17 +882,7 @@ func TestParseBatchAcceptsNothingElse(t *testing.T) {
 	eachString("+-0145:ac ", 6, check)
 	eachString("+1:a ", 8, check)
 	for _, s := range []string{"+1:0a1", "-99:4c4", "-1:0a1 +7:2c2", "+10:3b0 +10:3b0 -9:4a4", strings.Repeat("-42:2b3 ", 5) + "+42:3b2"} {
-		for place := range len(s) + 1 {
-			for _, c := range []byte(allBytes()) {
-				check(s[:place] + string([]byte{c}) + s[place:])
-				if place < len(s) {
-					check(s[:place] + string([]byte{c}) + s[place+1:])
-				}
-			}
-			check(s[:place])
-			check(s[place:])
-			check(s[:place] + s[min(place+1, len(s)):])
-		}
+		eachStringNear(s, check)
 	}
 }
 
