@@ -588,7 +588,9 @@ func wordsOf(e impl.Expr, length int) language {
 	case 2:
 		return language{"": true}
 	case 3:
-		return language{string([]byte{byte(last.Letter)}): true}
+		if length > 0 {
+			return language{string([]byte{byte(last.Letter)}): true}
+		}
 	case 4:
 		return product(wordsOf(x, length), wordsOf(y, length), length)
 	case 5:
