@@ -548,9 +548,9 @@ func wantedAfterWord(p impl.Positions, word []int) int {
 	return set
 }
 
-func wantedDeterminized(p impl.Positions) (impl.Automaton, bool) {
-	sets, numbers := wantedSets(p, 12)
-	if len(sets) > 12 {
+func wantedDeterminized(p impl.Positions, limit int) (impl.Automaton, bool) {
+	sets, numbers := wantedSets(p, limit)
+	if len(sets) > limit {
 		return impl.Automaton{}, false
 	}
 	a := withStates(len(sets))
@@ -568,7 +568,7 @@ func wantedDeterminized(p impl.Positions) (impl.Automaton, bool) {
 // checkDeterminize checks the automaton of valid positions, and that it accepts exactly the words that they match.
 func checkDeterminize(t *testing.T, p impl.Positions, words [][]int) (impl.Automaton, bool) {
 	t.Helper()
-	want, ok := wantedDeterminized(p)
+	want, ok := wantedDeterminized(p, 12)
 	checkDeterminized(t, p, want, ok)
 	if !ok {
 		return want, false
