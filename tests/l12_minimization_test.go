@@ -2,7 +2,6 @@ package tests
 
 import (
 	"cmp"
-	"maps"
 	"math"
 	"math/rand"
 	"slices"
@@ -11,48 +10,56 @@ import (
 	"loop.example/g01922/impl"
 )
 
-// leastDifferences returns for any two states the least word that leads from exactly one of them to an accepting state, if there is one. It looks for the words from their ends on, and for no state the number is -1.
-func leastDifferences(a impl.Automaton) map[[2]int][]int {
-	states := len(a.Accept)
-	accepts := func(state int) bool { return state >= 0 && a.Accept[state] }
-	after := func(state int, letter int) int {
+// leastPairWords returns for any state of a and any of b the least word for which accepts holds, given whether it leads from the one and from the other to an accepting state, if there is one. It looks for the words from their ends on, and for no state the number is -1.
+func leastPairWords(a impl.Automaton, b impl.Automaton, accepts func(inA bool, inB bool) bool) func(s int, u int) ([]int, bool) {
+	accepted := func(a impl.Automaton, state int) bool { return state >= 0 && a.Accept[state] }
+	after := func(a impl.Automaton, state int, letter int) int {
 		if state < 0 {
 			return -1
 		}
 		return a.Next[state][letter]
 	}
-	words := map[[2]int][]int{}
-	for s := -1; s < states; s++ {
-		for t := -1; t < states; t++ {
-			if accepts(s) != accepts(t) {
-				words[[2]int{s, t}] = nil
+	place := func(s int, u int) int { return (s+1)*(len(b.Accept)+1) + u + 1 }
+	words := make([][]int, place(len(a.Accept), 0))
+	eachPair := func(f func(s int, u int)) {
+		for s := -1; s < len(a.Accept); s++ {
+			for u := -1; u < len(b.Accept); u++ {
+				f(s, u)
 			}
 		}
 	}
+	eachPair(func(s int, u int) {
+		if accepts(accepted(a, s), accepted(b, u)) {
+			words[place(s, u)] = []int{}
+		}
+	})
 	for grown := true; grown; {
-		longer := map[[2]int][]int{}
-		for s := -1; s < states; s++ {
-			for t := -1; t < states; t++ {
-				if _, known := words[[2]int{s, t}]; known {
-					continue
-				}
-				for letter := 8; letter >= 0; letter-- {
-					if rest, differ := words[[2]int{after(s, letter), after(t, letter)}]; differ {
-						longer[[2]int{s, t}] = append([]int{letter}, rest...)
-					}
+		longer := slices.Clone(words)
+		grown = false
+		eachPair(func(s int, u int) {
+			for letter := 0; letter < 9 && longer[place(s, u)] == nil; letter++ {
+				if rest := words[place(after(a, s, letter), after(b, u, letter))]; rest != nil {
+					longer[place(s, u)], grown = append([]int{letter}, rest...), true
 				}
 			}
-		}
-		grown = len(longer) > 0
-		maps.Copy(words, longer)
+		})
+		words = longer
 	}
-	return words
+	return func(s int, u int) ([]int, bool) {
+		word := words[place(s, u)]
+		return word, word != nil
+	}
+}
+
+// leastDifferences returns for any two states the least word that leads from exactly one of them to an accepting state, if there is one.
+func leastDifferences(a impl.Automaton) func(s int, u int) ([]int, bool) {
+	return leastPairWords(a, a, func(x bool, y bool) bool { return x != y })
 }
 
 func wantedClasses(a impl.Automaton) []int {
 	differences := leastDifferences(a)
 	differ := func(s int, t int) bool {
-		_, found := differences[[2]int{s, t}]
+		_, found := differences(s, t)
 		return found
 	}
 	var classes, firsts []int
@@ -530,7 +537,7 @@ func checkDifferences(t *testing.T, a impl.Automaton) {
 	words, classes := leastDifferences(a), impl.StateClasses(a)
 	for x := range a.Accept {
 		for y := range a.Accept {
-			word, differ := words[[2]int{x, y}]
+			word, differ := words(x, y)
 			checkDistinguished(t, a, x, y, word, differ)
 			if differ == (classes[x] == classes[y]) || acceptedFrom(a, x, word) == acceptedFrom(a, y, word) == differ {
 				t.Fatalf("%v: the states %d and %d differ: %v, with the classes %v and the word %v", a, x, y, differ, classes, word)
